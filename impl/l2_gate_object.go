@@ -42,17 +42,11 @@ func (g gateFault) Error() string {
 
 // GateFill fills the values that are not set.
 func GateFill(shapes []GateShape, o GateObject) GateObject {
-	filled := gateCopyObject(o)
 	shape, found := gateOkShapeOf(shapes, o.Kind)
-	if !found || len(o.Values) != len(shape.Fields) {
-		return filled
+	if !found {
+		return gateCopyObject(o)
 	}
-	for place, f := range shape.Fields {
-		if filled.Values[place] == "" {
-			filled.Values[place] = f.Default
-		}
-	}
-	return filled
+	return gateFillObject(shape, o)
 }
 
 // GateCheck is what is wrong with an object: a code, and the place of a field.
@@ -79,6 +73,20 @@ func gateTold(err error) (int, int) {
 		return fault.code, fault.place
 	}
 	return 0, 0
+}
+
+// gateFillObject takes the shape to be an ok one of the object's kind, so that who fills many objects looks at the shapes once.
+func gateFillObject(shape GateShape, o GateObject) GateObject {
+	filled := gateCopyObject(o)
+	if len(o.Values) != len(shape.Fields) {
+		return filled
+	}
+	for place, f := range shape.Fields {
+		if filled.Values[place] == "" {
+			filled.Values[place] = f.Default
+		}
+	}
+	return filled
 }
 
 // gateCheckObject takes the shape to be an ok one of the object's kind, so that who checks many objects looks at the shapes once.
