@@ -49,6 +49,8 @@ type hearing struct {
 	at        int
 	old, next impl.GateObject
 	grant     int
+	// unpaid says that the purses are not looked at.
+	unpaid bool
 }
 
 func hearingOf(l impl.GateLaw, b impl.GateBook, door string, a ask) hearing {
@@ -159,7 +161,7 @@ func (h hearing) refusal() impl.GateSaid {
 		if place := h.wrongLink(); place >= 0 {
 			return refused(9, place)
 		}
-		if place := h.tooDear(); place >= 0 {
+		if place := h.tooDear(); place >= 0 && !h.unpaid {
 			return refused(10, place)
 		}
 	}
