@@ -300,7 +300,7 @@ func (d *dice) portAsk(l impl.GateLaw, b impl.GateBook) ask {
 	case impl.GateGive:
 		a = ask{Who: a.Who, Verb: a.Verb, To: pick(d, "ann", "bob", "cy"), Rule: d.portRule(l)}
 	case impl.GateTake:
-		a = ask{Who: a.Who, Verb: a.Verb, Number: 1 + d.roll(b.Given)}
+		a = ask{Who: a.Who, Verb: a.Verb, Number: 1 + d.roll(max(1, b.Given))}
 		if len(b.Grants) > 1 && d.roll(6) > 0 {
 			a.Number = pick(d, b.Grants[1:]...).Number
 		}
