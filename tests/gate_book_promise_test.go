@@ -291,6 +291,7 @@ func swapTwo[T any](d *dice, list []T) {
 }
 
 func TestGateBookOkMadeUp(t *testing.T) {
+	t.Parallel()
 	d := dice(21)
 	counts := map[bool]int{}
 	for range 4000 {

@@ -368,6 +368,7 @@ func (d *dice) atTheEnd(b book) {
 
 // Promises 7 and 9, and that a sweep does what the document says, and no more.
 func TestGateSweepMadeUp(t *testing.T) {
+	t.Parallel()
 	d := dice(53)
 	codes := map[int]int{}
 	for range 2500 {
@@ -415,6 +416,7 @@ func wholeSets(t *testing.T, l impl.GateLaw, ahead, behind impl.GateBook) {
 
 // Promise 7: through sweeps and all that stands in the chapter on purses, in any order.
 func TestGateLinksMadeUp(t *testing.T) {
+	t.Parallel()
 	d := dice(54)
 	gone := 0
 	for range 400 {
@@ -505,6 +507,7 @@ func endingSet(l impl.GateLaw, b impl.GateBook) []int {
 
 // Promises 8 and 9: sweeps, until there is nothing to do.
 func TestGateSweepsComeToAnEnd(t *testing.T) {
+	t.Parallel()
 	d := dice(55)
 	longest, stayed, emptied := 0, 0, 0
 	for range 4000 {

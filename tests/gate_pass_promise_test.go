@@ -356,6 +356,7 @@ func (d *dice) spoilAsk(a *ask) {
 
 // Promise 10, and that each ask does what the document says, in many rows of asks; between them doors draw, ticks pass and what ended is swept.
 func TestGatePassMadeUp(t *testing.T) {
+	t.Parallel()
 	d := dice(61)
 	codes := map[int][12]int{}
 	for range 400 {
@@ -463,6 +464,7 @@ func onlyVersion(b impl.GateBook, place int) impl.GateBook {
 
 // Promise 12, of every object of many books, through every door.
 func TestGatePassToWhatItIs(t *testing.T) {
+	t.Parallel()
 	d := dice(63)
 	done, refusals := 0, 0
 	for range 1500 {
@@ -499,6 +501,7 @@ func TestGatePassToWhatItIs(t *testing.T) {
 
 // Promise 12, of what was just asked for: what is filled in and mended is what it has by then.
 func TestGatePassTwice(t *testing.T) {
+	t.Parallel()
 	d := dice(64)
 	twice, shaped := 0, 0
 	for range 9000 {

@@ -730,6 +730,7 @@ func (h hurdled) put(set int, lookedFor func(said impl.GateSaid) bool) passCase 
 
 // Of all hurdles that are in the way together, in all ways to put some of them there, the first one by its code is told.
 func TestGatePassOrderOfCodes(t *testing.T) {
+	t.Parallel()
 	for _, h := range hurdledAsks() {
 		for set := 1; set < 1<<len(h.hurdles); set++ {
 			checkPass(t, h.put(set, func(impl.GateSaid) bool { return true }))

@@ -187,6 +187,7 @@ func boundsHold(l impl.GateLaw, b impl.GateBook) bool {
 
 // Promise 5, and that each call does what the document says, in many orders.
 func TestGatePursesMadeUp(t *testing.T) {
+	t.Parallel()
 	d := dice(31)
 	codes := map[string][5]int{}
 	for range 250 {
@@ -272,6 +273,7 @@ func TestGatePursesComeBackAtOnce(t *testing.T) {
 
 // Promise 6: at the latest GatePurseLife + 1 ticks behind the last draw, and not ahead of that, the door doing nothing any more, and others going on.
 func TestGatePursesComeBackFromTheDead(t *testing.T) {
+	t.Parallel()
 	d := dice(33)
 	came, alone := 0, 0
 	for range 1500 {

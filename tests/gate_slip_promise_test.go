@@ -161,6 +161,7 @@ func (d *dice) lateHistory() *history {
 
 // Promise 11. Slips are made of any views that there were, and brought behind whatever happened since.
 func TestGateCommitLate(t *testing.T) {
+	t.Parallel()
 	d := dice(71)
 	told := map[int]toldLate{}
 	for range 1000 {
@@ -293,6 +294,7 @@ func (d *dice) spoilSlip(s *slip, b impl.GateBook) {
 
 // Slips that no view gave, of laws and books of which some are not ok.
 func TestGateCommitOfSpoiltSlips(t *testing.T) {
+	t.Parallel()
 	d := dice(72)
 	counts := map[int]int{}
 	for range 6000 {

@@ -567,6 +567,7 @@ func TestGateStepOfADeadDoor(t *testing.T) {
 }
 
 func TestGateStepOfNoKind(t *testing.T) {
+	t.Parallel()
 	for _, kind := range []int{math.MinInt, -11, -1, 0, 12, 13, 14, 256 + 7, 1<<32 + 7, math.MaxInt} {
 		for _, other := range append(otherEvents(), atDoors(atD1)...) {
 			other.Kind = kind

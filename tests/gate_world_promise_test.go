@@ -277,6 +277,7 @@ func (c toldSteps) isAtLeast(t *testing.T, least toldSteps) {
 
 // Promises 4 and 13, and that each event does what the document says, in many histories.
 func TestGateStepMadeUp(t *testing.T) {
+	t.Parallel()
 	d := dice(81)
 	told := toldSteps{}
 	gifts, byOthers := 0, 0
@@ -430,6 +431,7 @@ func (d *dice) spoilWorld(l law, w world) {
 
 // Worlds of which many are not ok: then nothing is safe, and nothing happens.
 func TestGateStepOfSpoiltWorlds(t *testing.T) {
+	t.Parallel()
 	d := dice(83)
 	counts, safe := map[bool]int{}, map[bool]int{}
 	for range 2500 {

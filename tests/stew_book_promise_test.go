@@ -197,6 +197,7 @@ func (d *dice) stewSpoil(b *impl.StewBook) {
 
 // Of promise 18: what a valid book is, and what is counted of a service's copies.
 func TestStewValidMadeUp(t *testing.T) {
+	t.Parallel()
 	d := dice(91)
 	valid, broken := 0, 0
 	for i := range 30000 {
