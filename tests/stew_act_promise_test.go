@@ -306,11 +306,55 @@ func TestStewApplyMadeUp(t *testing.T) {
 	}
 }
 
+// stewHarmless is promise 16: it counts the acts that ended ready ones, and those that created some, and of both how many did just what they may.
+type stewHarmless struct {
+	ended, onEdge, created, full int
+}
+
+// add looks at an act that was done.
+func (n *stewHarmless) add(t *testing.T, b, next impl.StewBook, a impl.StewAct) {
+	t.Helper()
+	ahead, behind := stewReading{b, a}, stewReading{next, impl.StewAct{Service: a.Service}}
+	s, _ := behind.service()
+	live := behind.live(0)
+	ready := stewReadyBut(live, 0)
+	endedReady := slices.ContainsFunc(a.Ends, func(end impl.StewEnd) bool {
+		c, _ := ahead.copy(end.Number)
+		return c.State == impl.StewReady
+	})
+	if endedReady && !s.Gone && !a.Scale {
+		n.ended++
+		if ready < s.Want-s.Down {
+			t.Fatalf("%d ready behind %+v: %+v", ready, a, next)
+		}
+		if ready == s.Want-s.Down {
+			n.onEdge++
+		}
+	}
+	if a.Create > 0 {
+		n.created++
+		if len(live) > s.Want+s.Over {
+			t.Fatalf("%d live behind %+v: %+v", len(live), a, next)
+		}
+		if len(live) == s.Want+s.Over {
+			n.full++
+		}
+	}
+}
+
+// enough says that there were so many of each.
+func (n *stewHarmless) enough(t *testing.T, ended, onEdge, created, full int) {
+	t.Helper()
+	if n.ended < ended || n.onEdge < onEdge || n.created < created || n.full < full {
+		t.Errorf("too few made-up cases: %d ended ready ones, %d just so; %d created, %d as many as may be", n.ended, n.onEdge, n.created, n.full)
+	}
+}
+
 // Promise 16.
 func TestStewNoHarm(t *testing.T) {
 	t.Parallel()
 	d := dice(102)
-	ended, onEdge, created, full := 0, 0, 0, 0
+	var n stewHarmless
 	for range 40000 {
 		b := d.stewBook()
 		for range 3 {
@@ -319,38 +363,11 @@ func TestStewNoHarm(t *testing.T) {
 			if code != 0 {
 				continue
 			}
-			ahead, behind := stewReading{b, a}, stewReading{next, impl.StewAct{Service: a.Service}}
-			s, _ := behind.service()
-			live := behind.live(0)
-			ready := stewReadyBut(live, 0)
-			endedReady := slices.ContainsFunc(a.Ends, func(end impl.StewEnd) bool {
-				c, _ := ahead.copy(end.Number)
-				return c.State == impl.StewReady
-			})
-			if endedReady && !s.Gone && !a.Scale {
-				ended++
-				if ready < s.Want-s.Down {
-					t.Fatalf("%d ready behind %+v: %+v", ready, a, next)
-				}
-				if ready == s.Want-s.Down {
-					onEdge++
-				}
-			}
-			if a.Create > 0 {
-				created++
-				if len(live) > s.Want+s.Over {
-					t.Fatalf("%d live behind %+v: %+v", len(live), a, next)
-				}
-				if len(live) == s.Want+s.Over {
-					full++
-				}
-			}
+			n.add(t, b, next, a)
 			b = next
 		}
 	}
-	if ended < 1000 || onEdge < 300 || created < 1000 || full < 300 {
-		t.Errorf("too few made-up cases: %d ended ready ones, %d just so; %d created, %d as many as may be", ended, onEdge, created, full)
-	}
+	n.enough(t, 1000, 300, 1000, 300)
 }
 
 // stewMeanwhile lets a book go on: acts, and what else may befall copies and services.

@@ -111,7 +111,9 @@ func (d *dice) stewStir(b *impl.StewBook) {
 		case 2:
 			c.State, c.Berth = impl.StewWaiting, ""
 		case 3, 4:
-			c.State, c.Berth = 2+d.roll(3), pick(d, b.Berths...).Name
+			if len(b.Berths) > 0 {
+				c.State, c.Berth = 2+d.roll(3), pick(d, b.Berths...).Name
+			}
 		case 5:
 			b.Copies = slices.Delete(b.Copies, at, at+1)
 		}
