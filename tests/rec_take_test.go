@@ -107,8 +107,9 @@ func recEachKind() []impl.RecMessage {
 	return list
 }
 
-func TestRecTakeOfOneThatIsNotValid(t *testing.T) {
-	spoilt := map[string]recTurn{
+// recSpoilt are turns that leave none of recRoles valid.
+func recSpoilt() map[string]recTurn {
+	return map[string]recTurn{
 		"Number 0":               func(r *impl.Recorder) { r.Number = 0 },
 		"Of 6":                   func(r *impl.Recorder) { r.Of = 6 },
 		"Of below Number":        func(r *impl.Recorder) { r.Of = 1 },
@@ -127,8 +128,11 @@ func TestRecTakeOfOneThatIsNotValid(t *testing.T) {
 		"an ack of Index 0":      func(r *impl.Recorder) { r.Acks = []impl.RecAck{{Index: 0}} },
 		"a Ballot above Promise": func(r *impl.Recorder) { r.Ballot = 9 },
 	}
+}
+
+func TestRecTakeOfOneThatIsNotValid(t *testing.T) {
 	for sort, made := range recRoles() {
-		for what, spoil := range spoilt {
+		for what, spoil := range recSpoilt() {
 			r := recWith(made(), spoil)
 			for _, m := range append(recEachKind(), impl.RecMessage{}, impl.RecMessage{Kind: 1, From: 1, To: 3, Ballot: 9}) {
 				if got := impl.RecTake(r, m); !same(got, impl.Recorder{}) {
