@@ -221,7 +221,10 @@ func (d *dice) recMeets(r impl.Recorder) impl.RecMessage {
 
 // recLively is valid, and such that what it may do is done often: its slots are of few ballots.
 func (d *dice) recLively() impl.Recorder {
-	r := d.recorder()
+	return d.recEnlivened(d.recorder())
+}
+
+func (d *dice) recEnlivened(r impl.Recorder) impl.Recorder {
 	if r.Up && d.roll(2) == 0 && r.Disk.Promise > 0 {
 		ballot := max(1, r.Ballot)
 		for place := range r.Disk.Slots {

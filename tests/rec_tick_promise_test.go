@@ -91,7 +91,10 @@ func recRisenAsRead(r impl.Recorder) impl.Recorder {
 
 // recBusy is valid, and such that each part of a tick has something to do, often enough.
 func (d *dice) recBusy() impl.Recorder {
-	r := d.recLively()
+	return d.recMadeBusy(d.recLively())
+}
+
+func (d *dice) recMadeBusy(r impl.Recorder) impl.Recorder {
 	if !r.Up {
 		return r
 	}

@@ -129,7 +129,12 @@ func (d *dice) recDoes(r *impl.Recorder, leads bool) {
 // recorder is valid.
 func (d *dice) recorder() impl.Recorder {
 	of := 1 + d.roll(5)
-	r := impl.Recorder{Number: 1 + d.roll(of), Of: of, Up: d.roll(4) > 0, Safe: d.recOkDisk(), Disk: d.recOkDisk()}
+	return d.recorderOf(1+d.roll(of), of)
+}
+
+// recorderOf is the one of a Number, and valid.
+func (d *dice) recorderOf(number, of int) impl.Recorder {
+	r := impl.Recorder{Number: number, Of: of, Up: d.roll(4) > 0, Safe: d.recOkDisk(), Disk: d.recOkDisk()}
 	if !r.Up {
 		return r
 	}
