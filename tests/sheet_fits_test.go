@@ -225,7 +225,7 @@ func TestSheetFitsKinds(t *testing.T) {
 
 // sheetFitsAsRead is what fits by the document's words.
 func sheetFitsAsRead(kind, key string, words texts) bool {
-	for _, rule := range sheetTable()[kind] {
+	for _, rule := range sheetTableRead[kind] {
 		if rule.Key != key || len(rule.Args) != len(words) {
 			continue
 		}
