@@ -170,26 +170,32 @@ func (d *dice) spoilBlock(b *sheetBlock) {
 	}
 }
 
+// spoiltSheet is one that is made up, and then changed in some places; some are valid all the same.
+func (d *dice) spoiltSheet() sheet {
+	s := d.madeUpSheet(5)
+	for range 1 + d.roll(2) {
+		if len(s.Blocks) == 0 {
+			continue
+		}
+		i, j := d.roll(len(s.Blocks)), d.roll(len(s.Blocks))
+		switch d.roll(6) {
+		case 0:
+			s.Blocks[i], s.Blocks[j] = s.Blocks[j], s.Blocks[i]
+		case 1:
+			s.Blocks = slices.Insert(s.Blocks, i, s.Blocks[j])
+		default:
+			d.spoilBlock(&s.Blocks[i])
+		}
+	}
+	return s
+}
+
 // Sheets that are made up, and then spoilt in some places, are valid by the document's words, or not.
 func TestSheetValidMadeUp(t *testing.T) {
 	d := dice(39)
 	count := map[bool]int{}
 	for range 8000 {
-		s := d.madeUpSheet(5)
-		for range 1 + d.roll(2) {
-			if len(s.Blocks) == 0 {
-				continue
-			}
-			i, j := d.roll(len(s.Blocks)), d.roll(len(s.Blocks))
-			switch d.roll(6) {
-			case 0:
-				s.Blocks[i], s.Blocks[j] = s.Blocks[j], s.Blocks[i]
-			case 1:
-				s.Blocks = slices.Insert(s.Blocks, i, s.Blocks[j])
-			default:
-				d.spoilBlock(&s.Blocks[i])
-			}
-		}
+		s := d.spoiltSheet()
 		valid := sheetValidAsRead(s)
 		checkSheet(t, "a sheet that is spoilt", s, valid)
 		count[valid]++

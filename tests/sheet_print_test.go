@@ -46,9 +46,10 @@ func TestSheetPrintQuotes(t *testing.T) {
 	}
 }
 
-func TestSheetPrintNotValid(t *testing.T) {
+// sheetsNotValid has one for each thing that a sheet may not be; most have a block that is well beside it.
+func sheetsNotValid() map[string]sheet {
 	room, good := said("room", "1"), blockOf("team", "z")
-	for what, s := range map[string]sheet{
+	return map[string]sheet{
 		"two alike":                    sheetOf(good, good),
 		"the wrong way round":          sheetOf(good, blockOf("team", "a")),
 		"no kind":                      sheetOf(blockOf("zone", "a")),
@@ -64,7 +65,11 @@ func TestSheetPrintNotValid(t *testing.T) {
 		"a key with a newline":         sheetOf(blockOf("team", "a", said("room 1\nend\nteam b\ncopies", "1"))),
 		"a kind with a newline":        sheetOf(blockOf("team b\nend\nteam", "a")),
 		"a word that is one too great": sheetOf(blockOf("service", "a", said("where", letters(201)))),
-	} {
+	}
+}
+
+func TestSheetPrintNotValid(t *testing.T) {
+	for what, s := range sheetsNotValid() {
 		checkSheet(t, what, s, false)
 		if text := impl.SheetPrint(s); text != "" {
 			t.Errorf("%s: %q", what, text)
