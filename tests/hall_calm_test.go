@@ -4,6 +4,7 @@ import (
 	"fmt"
 	"math"
 	"slices"
+	"strconv"
 	"strings"
 	"testing"
 
@@ -47,7 +48,7 @@ func checkHallCalm(t *testing.T, what string, w hallWorld, rounds int, want hall
 	if w.Now < math.MaxInt-1000 && !same(hallCalmedBy(w, rounds), want) {
 		t.Errorf("%s is read as\n%+v", what, hallCalmedBy(w, rounds))
 	}
-	return checkBecomes(t, what, w, func(w hallWorld) hallWorld { return impl.HallCalm(w, rounds) }, want)
+	return checkBecomes(t, what, w, impl.HallWorldOk, hallWorldIsOk, func(w hallWorld) hallWorld { return impl.HallCalm(w, rounds) }, want)
 }
 
 // hallRound says that in one round nothing happens but a round of the recorders, and that these texts are then wished for at a recorder.
@@ -171,49 +172,56 @@ func TestHallCalmRoundComesFirst(t *testing.T) {
 	hallRound(t, "the last becomes known", chosen, 0, act)
 }
 
+// hallNumbers are texts that are known beside others, and the number of what comes by them then; 0 where nothing can come.
+var hallNumbers = []struct {
+	what   string
+	more   texts
+	number int
+}{
+	{"none above HallMaxAsks", nil, 500001},
+	{"one at HallMaxAsks less 1", texts{"time 499999"}, 500001},
+	{"one at HallMaxAsks", texts{"time 500000"}, 500001},
+	{"one above it", texts{"time 500001"}, 500002},
+	{"some above it", texts{"time 500001", "time 700000", "time 600000", "time 2"}, 700001},
+	{"some turned around", texts{"time 700000", "time 500001"}, 700001},
+	{"one twice", texts{"time 700000", "time 500001", "time 700000"}, 700001},
+	{"a slip", texts{"slip 600000 d1 3 * ann take 99"}, 600001},
+	{"a draw", texts{"draw 600000 d8 dev copies 1"}, 600001},
+	{"a back", texts{"back 600000 d8 dev copies"}, 600001},
+	{"a bound", texts{"bound 600000 ops copies 9"}, 600001},
+	{"a sweep", texts{"bound 1 ops copies 9", "sweep 600000", "slip 1 d1 3 * ann take 99"}, 600001},
+	{"a tick of the sea", texts{"sea 600000 fails ghost 1"}, 600001},
+	{"an act", texts{"act 600000 ghost 1 0 * * *"}, 500001},
+	{"an act that is higher", texts{"act 900000 ghost 1 0 * * *", "time 600000", "act 1000000 ghost 1 0 * * *"}, 600001},
+	{"texts that are not read", texts{"time 0600000", "time 600000 ", "TIME 600000", "", "600000"}, 500001},
+	{"the last but one", texts{"time 999999"}, 1000000},
+	{"an act at HallMaxNumber", texts{"act 1000000 ghost 1 0 * * *", "time 999999"}, 1000000},
+	{"an entry at HallMaxNumber", texts{"time 1000000"}, 0},
+	{"an entry at HallMaxNumber among others", texts{"time 600000", "time 1000000", "time 700000"}, 0},
+}
+
+// hallNumbered is a form, with a number in place of N; none with the number 0.
+func hallNumbered(form string, number int) texts {
+	if form == "" || number == 0 {
+		return nil
+	}
+	return texts{strings.Replace(form, "N", strconv.Itoa(number), 1)}
+}
+
 // Numbers: one more than the greatest of HallMaxAsks and those of the entries that are known, but for acts.
 func TestHallCalmNumbers(t *testing.T) {
-	for what, begin := range map[string]texts{"a tick": hallWebReady()[:3], "a sweep": hallSwept()} {
-		for _, c := range []struct {
-			what   string
-			more   texts
-			number int
-		}{
-			{"none above HallMaxAsks", nil, 500001},
-			{"one at HallMaxAsks less 1", texts{"time 499999"}, 500001},
-			{"one at HallMaxAsks", texts{"time 500000"}, 500001},
-			{"one above it", texts{"time 500001"}, 500002},
-			{"some above it", texts{"time 500001", "time 700000", "time 600000", "time 2"}, 700001},
-			{"some turned around", texts{"time 700000", "time 500001"}, 700001},
-			{"one twice", texts{"time 700000", "time 500001", "time 700000"}, 700001},
-			{"a slip", texts{"slip 600000 d1 3 * ann take 99"}, 600001},
-			{"a draw", texts{"draw 600000 d1 dev copies 1"}, 600001},
-			{"a back", texts{"back 600000 d1 dev copies"}, 600001},
-			{"a bound", texts{"bound 600000 ops copies 9"}, 600001},
-			{"a sweep", texts{"bound 1 ops copies 9", "sweep 600000", "slip 1 d1 3 * ann take 99"}, 600001},
-			{"a tick of the sea", texts{"sea 600000 fails ghost 1"}, 600001},
-			{"an act", texts{"act 600000 ghost 1 0 * * *"}, 500001},
-			{"an act that is higher", texts{"act 900000 ghost 1 0 * * *", "time 600000", "act 1000000 ghost 1 0 * * *"}, 600001},
-			{"texts that are not read", texts{"time 0600000", "time 600000 ", "TIME 600000", "", "600000"}, 500001},
-			{"the last but one", texts{"time 999999"}, 1000000},
-		} {
+	for next, begin := range map[string]texts{"sea N tick": hallWebReady()[:3], "sweep N": hallSwept()} {
+		for _, c := range hallNumbers {
 			// Only what is behind a sweep could change what is next.
-			if what == "a sweep" && c.what == "a sweep" {
+			if next == "sweep N" && c.what == "a sweep" {
 				continue
 			}
-			next := fmt.Sprint("sea ", c.number, " tick")
-			if what == "a sweep" {
-				next = fmt.Sprint("sweep ", c.number)
-			}
-			hallRound(t, what+", "+c.what, hallLedBy(inOneRow(begin, c.more)), 0, next)
-			hallRound(t, what+", "+c.what+", ahead", hallLedBy(inOneRow(c.more, begin)), 0, next)
+			hallRound(t, next+", "+c.what, hallLedBy(inOneRow(begin, c.more)), 0, hallNumbered(next, c.number)...)
+			hallRound(t, next+", "+c.what+", ahead", hallLedBy(inOneRow(c.more, begin)), 0, hallNumbered(next, c.number)...)
 			// What others know is not looked at.
 			other := hallWith(hallKnowing(begin, inOneRow(begin, c.more), inOneRow(c.more)), hallOne(0, recLeads))
-			hallRound(t, what+", "+c.what+", elsewhere", other, 0, strings.Replace(next, fmt.Sprint(c.number), "500001", 1))
+			hallRound(t, next+", "+c.what+", elsewhere", other, 0, hallNumbered(next, 500001)...)
 		}
-		hallRound(t, what+", an entry at HallMaxNumber", hallLedBy(inOneRow(begin, "time 1000000")), 0)
-		hallRound(t, what+", an entry at HallMaxNumber among others", hallLedBy(inOneRow("time 600000", "time 1000000", begin, "time 700000")), 0)
-		hallRound(t, what+", an act at HallMaxNumber", hallLedBy(inOneRow(begin, "act 1000000 ghost 1 0 * * *", "time 999999")), 0, strings.Replace(map[string]string{"a tick": "sea N tick", "a sweep": "sweep N"}[what], "N", "1000000", 1))
 	}
 	hallRound(t, "an act needs no number", hallLedBy(inOneRow(hallWebReady()[:2], "time 1000000")), 0, "act 2 web 2 2 * * *")
 }

@@ -105,7 +105,7 @@ func TestHallFixed(t *testing.T) {
 }
 
 // checkSaysOf says what is answered of a world, which stays as it is.
-func checkSaysOf(t *testing.T, what string, w hallWorld, says, reads func(w hallWorld) bool, want bool) {
+func checkSaysOf[W any](t *testing.T, what string, w W, says, reads func(w W) bool, want bool) {
 	t.Helper()
 	w = spread(w)
 	before := whole(w)

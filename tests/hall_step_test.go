@@ -58,8 +58,8 @@ func hallSteppedBy(w hallWorld, e hallEvent) hallWorld {
 	return w
 }
 
-// checkBecomes says what a call makes of a world, in new memory, the world that is handed in staying as it is; an ok one stays ok.
-func checkBecomes(t *testing.T, what string, w hallWorld, does func(w hallWorld) hallWorld, want hallWorld) hallWorld {
+// checkBecomes says what a call makes of a world, in new memory, the world that is handed in staying as it is; an ok one stays ok, and one that is read as not ok becomes nothing.
+func checkBecomes[W any](t *testing.T, what string, w W, isOk, reads func(w W) bool, does func(w W) W, want W) W {
 	t.Helper()
 	w = spread(w)
 	before := whole(w)
@@ -67,7 +67,8 @@ func checkBecomes(t *testing.T, what string, w hallWorld, does func(w hallWorld)
 	if !same(got, want) {
 		t.Errorf("%s:\n%+v, not\n%+v", what, got, want)
 	}
-	if ok := hallWorldIsOk(w); impl.HallWorldOk(got) != ok || !ok && !same(got, hallWorld{}) {
+	var nothing W
+	if ok := reads(w); isOk(got) != ok || !ok && !same(got, nothing) {
 		t.Errorf("%s: the world behind it: %+v", what, got)
 	}
 	if !same(whole(w), before) {
@@ -82,7 +83,7 @@ func checkHallStep(t *testing.T, what string, w hallWorld, e hallEvent, want hal
 	t.Helper()
 	e = spread(e)
 	before := whole(e)
-	got := checkBecomes(t, what, w, func(w hallWorld) hallWorld { return impl.HallStep(w, e) }, want)
+	got := checkBecomes(t, what, w, impl.HallWorldOk, hallWorldIsOk, func(w hallWorld) hallWorld { return impl.HallStep(w, e) }, want)
 	if !same(whole(e), before) {
 		t.Errorf("%s: the event is changed", what)
 	}

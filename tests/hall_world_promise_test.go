@@ -2,12 +2,9 @@ package tests
 
 import (
 	"reflect"
-	"runtime"
 	"slices"
 	"strconv"
-	"sync"
 	"testing"
-	"time"
 
 	"loop.example/wharfdesk/impl"
 )
@@ -343,23 +340,16 @@ func TestHallWorldMemory(t *testing.T) {
 	}
 }
 
-// hallQuestion is something that is asked, and its answer the first time.
-type hallQuestion struct {
-	ask  func() hallWorld
-	want hallWorld
-}
-
-func (d *dice) hallQuestions(many int) []hallQuestion {
-	var list []hallQuestion
+func (d *dice) hallQuestions(many int) []question[hallWorld] {
+	var list []question[hallWorld]
 	for i := range many {
 		w := d.hallMadeUpWorld()
 		e, rounds := d.hallAnyEvent(w), 1+d.roll(5)
-		q := hallQuestion{ask: func() hallWorld { return impl.HallCalm(w, rounds) }}
+		ask := func() hallWorld { return impl.HallCalm(w, rounds) }
 		if i%3 > 0 {
-			q.ask = func() hallWorld { return impl.HallStep(w, e) }
+			ask = func() hallWorld { return impl.HallStep(w, e) }
 		}
-		q.want = q.ask()
-		list = append(list, q)
+		list = append(list, questionOf(ask))
 	}
 	return list
 }
@@ -367,44 +357,12 @@ func (d *dice) hallQuestions(many int) []hallQuestion {
 // An answer is the same each time, however those at work come to their turns, and whoever else asks at that time.
 func TestHallWorldSideBySide(t *testing.T) {
 	d := dice(3404)
-	questions := d.hallQuestions(90)
-	before := runtime.GOMAXPROCS(0)
-	defer runtime.GOMAXPROCS(before)
-	for _, procs := range []int{1, 2, before + 3} {
-		runtime.GOMAXPROCS(procs)
-		var joined sync.WaitGroup
-		for asker := range 8 {
-			joined.Go(func() {
-				for i := range questions {
-					q := questions[(i+asker*asker)%len(questions)]
-					if got := q.ask(); !same(got, q.want) {
-						t.Errorf("%+v, not %+v", got, q.want)
-					}
-				}
-			})
-		}
-		joined.Wait()
-	}
+	askSideBySide(t, d.hallQuestions(90))
 }
 
-// All that a call began has ended when it answers.
 func TestHallWorldLeavesNobody(t *testing.T) {
 	d := dice(3405)
-	questions := d.hallQuestions(60)
-	before := runtime.NumGoroutine()
-	for range 5 {
-		for _, q := range questions {
-			q.ask()
-		}
-		impl.HallStep(hallWorld{}, hallEvent{Kind: impl.HallSteward, B: 1})
-		impl.HallCalm(hallWorld{}, 3)
-	}
-	// One that has told that it is at its end may still be on its way out.
-	for range 100 {
-		if runtime.NumGoroutine() <= before {
-			return
-		}
-		time.Sleep(10 * time.Millisecond)
-	}
-	t.Errorf("%d goroutines, and there were %d", runtime.NumGoroutine(), before)
+	none := func() hallWorld { return impl.HallStep(hallWorld{}, hallEvent{Kind: impl.HallSteward, B: 1}) }
+	noRounds := func() hallWorld { return impl.HallCalm(hallWorld{}, 3) }
+	leavesNobody(t, append(d.hallQuestions(60), questionOf(none), questionOf(noRounds)))
 }

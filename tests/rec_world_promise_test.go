@@ -1,11 +1,8 @@
 package tests
 
 import (
-	"runtime"
 	"slices"
-	"sync"
 	"testing"
-	"time"
 
 	"loop.example/wharfdesk/impl"
 )
@@ -354,26 +351,19 @@ func TestRecWorldMemory(t *testing.T) {
 	}
 }
 
-// recQuestion is something that is asked, and its answer the first time.
-type recQuestion struct {
-	ask  func() impl.RecWorld
-	want impl.RecWorld
-}
-
-func (d *dice) recQuestions(many int) []recQuestion {
-	var list []recQuestion
+func (d *dice) recQuestions(many int) []question[impl.RecWorld] {
+	var list []question[impl.RecWorld]
 	for i := range many {
 		w := d.recWorld()
 		e, rounds := d.recWorldEvent(w), 1+d.roll(5)
-		q := recQuestion{ask: func() impl.RecWorld { return impl.RecCalm(w, rounds) }}
+		ask := func() impl.RecWorld { return impl.RecCalm(w, rounds) }
 		switch i % 3 {
 		case 0:
-			q.ask = func() impl.RecWorld { return impl.RecDo(w, e) }
+			ask = func() impl.RecWorld { return impl.RecDo(w, e) }
 		case 1:
-			q.ask = func() impl.RecWorld { return impl.RecDo(w, recEvent(impl.RecEvTick, 0)) }
+			ask = func() impl.RecWorld { return impl.RecDo(w, recEvent(impl.RecEvTick, 0)) }
 		}
-		q.want = q.ask()
-		list = append(list, q)
+		list = append(list, questionOf(ask))
 	}
 	return list
 }
@@ -387,46 +377,14 @@ func TestRecWorldSideBySide(t *testing.T) {
 		recFullTo(100 + 9*at)(&crowd.Recorders[at])
 	}
 	ticks := func() impl.RecWorld { return impl.RecDo(crowd, recEvent(impl.RecEvTick, 0)) }
-	questions = append(questions, recQuestion{ticks, recDoneAsRead(crowd, recEvent(1, 0))})
-	before := runtime.GOMAXPROCS(0)
-	defer runtime.GOMAXPROCS(before)
-	for _, procs := range []int{1, 2, before + 3} {
-		runtime.GOMAXPROCS(procs)
-		var joined sync.WaitGroup
-		for asker := range 8 {
-			joined.Go(func() {
-				for i := range questions {
-					q := questions[(i+asker*asker)%len(questions)]
-					if got := q.ask(); !same(got, q.want) {
-						t.Errorf("%+v, not %+v", got, q.want)
-					}
-				}
-			})
-		}
-		joined.Wait()
-	}
+	askSideBySide(t, append(questions, question[impl.RecWorld]{ticks, recDoneAsRead(crowd, recEvent(1, 0))}))
 }
 
-// All that a call began has ended when it answers.
 func TestRecWorldLeavesNobody(t *testing.T) {
 	d := dice(2605)
-	questions := d.recQuestions(60)
-	before := runtime.NumGoroutine()
-	for range 5 {
-		for _, q := range questions {
-			q.ask()
-		}
-		impl.RecDo(impl.RecWorld{}, recEvent(impl.RecEvTick, 0))
-		impl.RecCalm(impl.RecWorld{}, 3)
-	}
-	// One that has told that it is at its end may still be on its way out.
-	for range 100 {
-		if runtime.NumGoroutine() <= before {
-			return
-		}
-		time.Sleep(10 * time.Millisecond)
-	}
-	t.Errorf("%d goroutines, and there were %d", runtime.NumGoroutine(), before)
+	none := func() impl.RecWorld { return impl.RecDo(impl.RecWorld{}, recEvent(impl.RecEvTick, 0)) }
+	noRounds := func() impl.RecWorld { return impl.RecCalm(impl.RecWorld{}, 3) }
+	leavesNobody(t, append(d.recQuestions(60), questionOf(none), questionOf(noRounds)))
 }
 
 // Promise 33: over made-up worlds, and over ones that events have led to.

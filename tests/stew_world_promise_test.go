@@ -2,11 +2,8 @@ package tests
 
 import (
 	"cmp"
-	"runtime"
 	"slices"
-	"sync"
 	"testing"
-	"time"
 
 	"loop.example/wharfdesk/impl"
 )
@@ -509,69 +506,41 @@ func TestStewLivenessGreatest(t *testing.T) {
 	}
 }
 
-// stewQuestion is something that is asked, and its answer the first time.
-type stewQuestion struct {
-	ask  func() (impl.StewWorld, []int)
-	want impl.StewWorld
-	told []int
+// stewAnswer is all that is answered of a world.
+type stewAnswer struct {
+	World impl.StewWorld
+	Told  []int
 }
 
-func (d *dice) stewQuestions(many int) []stewQuestion {
-	var list []stewQuestion
+func (d *dice) stewQuestions(many int) []question[stewAnswer] {
+	var list []question[stewAnswer]
 	for i := range many {
 		w := d.stewWorld()
 		m, rounds, order := d.stewMove(w), d.roll(6), d.stewOrder()
-		q := stewQuestion{ask: func() (impl.StewWorld, []int) { return impl.StewDo(w, m) }}
+		ask := stewDoing(w, m)
 		if i%2 == 0 {
-			q.ask = func() (impl.StewWorld, []int) { return impl.StewCalm(w, rounds, order), nil }
+			ask = func() stewAnswer { return stewAnswer{World: impl.StewCalm(w, rounds, order)} }
 		}
-		q.want, q.told = q.ask()
-		list = append(list, q)
+		list = append(list, questionOf(ask))
 	}
 	return list
+}
+
+func stewDoing(w impl.StewWorld, m impl.StewMove) func() stewAnswer {
+	return func() stewAnswer {
+		next, told := impl.StewDo(w, m)
+		return stewAnswer{next, told}
+	}
 }
 
 // An answer is the same each time, whoever else asks at that time, and the same things are handed in to all of them.
 func TestStewWorldSideBySide(t *testing.T) {
 	d := dice(146)
-	questions := d.stewQuestions(120)
-	before := runtime.GOMAXPROCS(0)
-	defer runtime.GOMAXPROCS(before)
-	for _, procs := range []int{1, 2, before + 3} {
-		runtime.GOMAXPROCS(procs)
-		var joined sync.WaitGroup
-		for asker := range 8 {
-			joined.Go(func() {
-				for i := range questions {
-					q := questions[(i+asker*asker)%len(questions)]
-					if got, told := q.ask(); !same(got, q.want) || !slices.Equal(told, q.told) {
-						t.Errorf("%v and %+v, not %v and %+v", told, got, q.told, q.want)
-					}
-				}
-			})
-		}
-		joined.Wait()
-	}
+	askSideBySide(t, d.stewQuestions(120))
 }
 
-// All that a call began has ended when it answers.
 func TestStewWorldLeavesNobody(t *testing.T) {
 	d := dice(147)
-	questions := d.stewQuestions(60)
-	before := runtime.NumGoroutine()
-	for range 10 {
-		for _, q := range questions {
-			q.ask()
-		}
-		impl.StewDo(stewSince(1, 2), stewLook(1, 0))
-		impl.StewCalm(stewSince(1, 2), 3, nil)
-	}
-	// One that has told that it is at its end may still be on its way out.
-	for range 100 {
-		if runtime.NumGoroutine() <= before {
-			return
-		}
-		time.Sleep(10 * time.Millisecond)
-	}
-	t.Errorf("%d goroutines, and there were %d", runtime.NumGoroutine(), before)
+	noOrder := func() stewAnswer { return stewAnswer{World: impl.StewCalm(stewSince(1, 2), 3, nil)} }
+	leavesNobody(t, append(d.stewQuestions(60), questionOf(stewDoing(stewSince(1, 2), stewLook(1, 0))), questionOf(noOrder)))
 }
